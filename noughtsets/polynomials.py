@@ -1,0 +1,105 @@
+"""The calls: each takes whole numbers and rows of them, and answers a list of whole numbers."""
+
+PRIMES = (2, 3, 5, 7)
+MOST_UNKNOWNS = 3
+MOST_OFTEN = 12
+
+NOT_AS_TOLD = -22
+NO_SUCH_POINT = -2
+
+
+def value(p, n, x, f):
+    """Answer f's value at point x."""
+    if not is_polynomial(p, n, f):
+        return [NOT_AS_TOLD]
+    if x >= count_points(p, n):
+        return [NO_SUCH_POINT]
+    return [row_value(p, cut_terms(n, f), point_numbers(p, n, x))]
+
+
+def zeros(p, n, f):
+    """Answer at how many points f is 0, then these, rising."""
+    if not is_polynomial(p, n, f):
+        return [NOT_AS_TOLD]
+    terms = cut_terms(n, f)
+    found = []
+    for x in range(count_points(p, n)):
+        if row_value(p, terms, point_numbers(p, n, x)) == 0:
+            found.append(x)
+    return [len(found)] + found
+
+
+def is_polynomial(p, n, f):
+    """Tell whether p and n are allowed and f is the row of a polynomial for them."""
+    # p and n come first: the row can't be cut into terms by an n that isn't allowed.
+    if not is_space(p, n) or len(f) % (n + 1) != 0:
+        return False
+    terms = cut_terms(n, f)
+    for term in terms:
+        if not is_term(p, term):
+            return False
+    return is_in_order(terms)
+
+
+def is_space(p, n):
+    """Tell whether there are points with n numbers below p."""
+    return p in PRIMES and 1 <= n and n <= MOST_UNKNOWNS
+
+
+def is_term(p, term):
+    """Tell whether a term's factor, and how often each unknown stands in it, are allowed."""
+    return 1 <= term[0] and term[0] < p and max(term[1:]) <= MOST_OFTEN
+
+
+def is_in_order(terms):
+    """Tell whether each term stands behind the one before it by their order."""
+    for k in range(1, len(terms)):
+        # Two terms alike but for the factor have the same place, so they fail here too.
+        if not term_place(terms[k - 1]) < term_place(terms[k]):
+            return False
+    return True
+
+
+def term_place(term):
+    """Give what the order of terms goes by: the degree, then the unknowns from the first on."""
+    return [sum(term[1:])] + term[1:]
+
+
+def cut_terms(n, f):
+    """Give the terms of row f, each a list of its own: the factor, then n numbers."""
+    return [f[k:k + n + 1] for k in range(0, len(f), n + 1)]
+
+
+def count_points(p, n):
+    """Give how many points there are."""
+    count = 1
+    for k in range(n):
+        count = count * p
+    return count
+
+
+def point_numbers(p, n, x):
+    """Give the n numbers of point x, the first one first."""
+    numbers = []
+    rest = x
+    for k in range(n):
+        numbers.append(rest % p)
+        rest = rest // p
+    return numbers
+
+
+def row_value(p, terms, point):
+    """Give what all terms come to at a point."""
+    total = 0
+    for term in terms:
+        total = (total + term_value(p, term, point)) % p
+    return total
+
+
+def term_value(p, term, point):
+    """Give what one term comes to at a point."""
+    product = term[0]
+    for k in range(len(point)):
+        for turn in range(term[k + 1]):
+            product = product * point[k] % p
+    return product

@@ -1,0 +1,142 @@
+"""What several tests need: rows with answers reckoned by hand, and a plain reckoning of its own."""
+
+from itertools import product
+
+PRIMES = (2, 3, 5, 7)
+COUNTS = (1, 2, 3)
+SPACES = [(p, n) for p in PRIMES for n in COUNTS]
+GREATEST = 4294967295
+
+# p, n, the row, the values at all points in their order.
+BY_HAND = [
+    (2, 1, [1, 0, 1, 3], [1, 0]),
+    (2, 2, [1, 0, 0, 1, 0, 1, 1, 1, 1], [1, 1, 0, 1]),
+    (2, 3, [1, 0, 0, 1, 1, 1, 1, 0], [0, 0, 0, 1, 1, 1, 1, 0]),
+    (3, 1, [2, 0, 1, 2], [2, 0, 0]),
+    (3, 2, [1, 0, 0, 2, 1, 0, 1, 0, 2], [1, 0, 2, 2, 1, 0, 2, 1, 0]),
+    (3, 3, [1, 0, 0, 1, 1, 0, 1, 0, 1, 1, 0, 0],
+     [0, 1, 2, 1, 2, 0, 2, 0, 1, 1, 2, 0, 2, 0, 1, 0, 1, 2, 2, 0, 1, 0, 1, 2, 1, 2, 0]),
+    (5, 1, [1, 0, 1, 2], [1, 2, 0, 0, 2]),
+    (7, 1, [6, 0, 1, 3], [6, 0, 0, 5, 0, 5, 5]),
+]
+
+# p, n, the row, a point, the value there.
+BY_HAND_AT = [
+    (5, 2, [3, 0, 0, 2, 0, 1, 4, 1, 0, 1, 1, 2], 13, 1),
+    (5, 3, [2, 1, 1, 1], 117, 3),
+    (7, 2, [1, 0, 2, 1, 2, 0], 16, 1),
+    (7, 3, [5, 0, 0, 0, 3, 0, 1, 8], 167, 3),
+]
+
+
+def points(p, n):
+    """All points as tuples x1, x2, x3, in the order of their numbers."""
+    return [tuple(reversed(turned)) for turned in product(range(p), repeat=n)]
+
+
+def reckoned(p, n, f):
+    """The values of f at all points, by whole numbers that are reduced at the very end."""
+    answer = []
+    for point in points(p, n):
+        total = 0
+        for start in range(0, len(f), n + 1):
+            part = f[start]
+            for number, often in zip(point, f[start + 1:start + n + 1]):
+                part *= number ** often
+            total += part
+        answer.append(total % p)
+    return answer
+
+
+def all_terms(n):
+    """Every term without its factor, in the terms' order."""
+    return sorted(product(range(13), repeat=n), key=lambda often: (sum(often),) + often)
+
+
+def row_of(p, chosen):
+    """A row with the terms chosen, with factors that go round through 1 to p - 1."""
+    row = []
+    for k, often in enumerate(chosen):
+        row.extend([1 + (k * 3 + len(chosen)) % (p - 1)] + list(often))
+    return row
+
+
+def made_rows(p, n):
+    """Rows of many lengths, up to the longest there may be."""
+    terms = all_terms(n)
+    most = min(400 // (n + 1), len(terms))
+    rows = [[]]
+    for step in (1, 2, 3, 5, 7, 11, 29):
+        rows.append(row_of(p, terms[step % 4::step][:most]))
+        rows.append(row_of(p, terms[step::step + 1][-3:]))
+    return rows
+
+
+def nought_row(p, n, often=1):
+    """A row with terms that's 0 everywhere: the first unknown `often` times, and p - 1 times more."""
+    rest = [0] * (n - 1)
+    return [p - 1, often] + rest + [1, often + p - 1] + rest
+
+
+# The cause, p, n, the row: each one is no polynomial, the short ones for that cause alone.
+NO_POLYNOMIALS = [
+    ("a factor alone", 5, 1, [1]),
+    ("a factor alone behind a term", 5, 1, [1, 0, 1]),
+    ("one number too few, n is 2", 5, 2, [1, 0, 0, 1, 0]),
+    ("one number too many, n is 2", 5, 2, [1, 0, 0, 1]),
+    ("two numbers too many, n is 3", 5, 3, [1, 0, 0, 0, 1, 1]),
+    ("terms for one unknown, n is 2", 5, 2, [1, 0, 1, 1]),
+    ("factor 0", 5, 1, [0, 0]),
+    ("factor 0, p is 2", 2, 1, [0, 1]),
+    ("factor 0 in the last term", 5, 2, [1, 0, 0, 0, 1, 1]),
+    ("factor p, p is 2", 2, 1, [2, 0]),
+    ("factor p, p is 3", 3, 1, [3, 0]),
+    ("factor p, p is 5", 5, 2, [5, 0, 0]),
+    ("factor p, p is 7", 7, 3, [7, 0, 0, 0]),
+    ("factor p and 1", 7, 1, [8, 1]),
+    ("factor p in the last term", 3, 1, [1, 0, 3, 1]),
+    ("the greatest factor", 7, 1, [GREATEST, 1]),
+    ("13 times, n is 1", 7, 1, [1, 13]),
+    ("13 times, the first of 2", 7, 2, [1, 13, 0]),
+    ("13 times, the second of 2", 7, 2, [1, 0, 13]),
+    ("13 times, the first of 3", 7, 3, [1, 13, 0, 0]),
+    ("13 times, the second of 3", 7, 3, [1, 0, 13, 0]),
+    ("13 times, the third of 3", 7, 3, [1, 0, 0, 13]),
+    ("13 times in the last term", 2, 1, [1, 0, 1, 13]),
+    ("the greatest number of times", 7, 1, [1, GREATEST]),
+    ("the greater degree first, n is 1", 5, 1, [1, 2, 1, 1]),
+    ("the greater degree first, n is 2", 5, 2, [1, 0, 3, 1, 1, 1]),
+    ("the greater degree first, n is 3", 5, 3, [1, 0, 0, 2, 1, 1, 0, 0]),
+    ("the greater degree in the middle", 5, 1, [1, 0, 1, 3, 1, 2]),
+    ("by the first unknown, n is 2", 5, 2, [1, 1, 0, 1, 0, 1]),
+    ("by the first unknown, n is 3", 5, 3, [1, 1, 0, 1, 1, 0, 2, 0]),
+    ("by the first unknown, the last two", 5, 2, [1, 0, 0, 1, 2, 1, 1, 1, 2]),
+    ("by the second unknown", 5, 3, [1, 0, 1, 0, 1, 0, 0, 1]),
+    ("by the second unknown, the first stands there", 5, 3, [1, 1, 2, 0, 1, 1, 1, 1]),
+    ("twice the same term", 5, 1, [1, 1, 1, 1]),
+    ("alike but for the factor, n is 1", 5, 1, [1, 1, 2, 1]),
+    ("alike but for the factor, the greater first", 5, 1, [2, 1, 1, 1]),
+    ("alike but for the factor, n is 2", 5, 2, [1, 1, 2, 3, 1, 2]),
+    ("alike but for the factor, n is 3", 5, 3, [1, 1, 2, 3, 4, 1, 2, 3]),
+    ("alike but for the factor, both 1", 5, 2, [1, 0, 0, 2, 0, 0]),
+    ("alike with another between", 5, 1, [1, 1, 1, 2, 2, 1]),
+    ("400 numbers, n is 1", 7, 1, [1, 0] * 200),
+    ("400 numbers, n is 2", 7, 2, row_of(7, all_terms(2)[:133]) + [1]),
+    ("400 times the greatest number", 7, 3, [GREATEST] * 400),
+    ("400 times 0", 7, 3, [0] * 400),
+]
+
+# p, n: for these every row is refused.
+NO_SPACES = [(p, 1) for p in (0, 1, 4, 6, 8, 9, 10, 11, 13, GREATEST)]
+NO_SPACES += [(p, n) for p in PRIMES for n in (0, 4, 5, GREATEST)]
+NO_SPACES += [(0, 0), (GREATEST, GREATEST)]
+
+
+class Untouched(list):
+    """A list that fails on the spot when it is changed, even for a while."""
+
+    def refuse(self, *given, **named):
+        raise AssertionError("what was handed in is changed")
+
+    append = extend = insert = pop = remove = clear = sort = reverse = refuse
+    __setitem__ = __delitem__ = __iadd__ = __imul__ = refuse
