@@ -29,6 +29,20 @@ def zeros(p, n, f):
     return [len(found)] + found
 
 
+def reduced(p, n, f):
+    """Answer how many terms f has when it's reduced, then its row."""
+    if not is_polynomial(p, n, f):
+        return [NOT_AS_TOLD]
+    return counted_row(joined_terms(p, [lowered_term(p, term) for term in cut_terms(n, f)]))
+
+
+def plus(p, n, f, g):
+    """Answer how many terms f and g added have, then the row."""
+    if not is_polynomial(p, n, f) or not is_polynomial(p, n, g):
+        return [NOT_AS_TOLD]
+    return counted_row(joined_terms(p, cut_terms(n, f) + cut_terms(n, g)))
+
+
 def is_polynomial(p, n, f):
     """Tell whether p and n are allowed and f is the row of a polynomial for them."""
     # p and n come first: the row can't be cut into terms by an n that isn't allowed.
@@ -103,3 +117,36 @@ def term_value(p, term, point):
         for turn in range(term[k + 1]):
             product = product * point[k] % p
     return product
+
+
+def lowered_term(p, term):
+    """Give the term with each unknown in it less than p times."""
+    return [term[0]] + [lowered(p, often) for often in term[1:]]
+
+
+def lowered(p, often):
+    """Give how often an unknown stands in a term when it's reduced."""
+    left = often
+    # A number to the power of p is the number itself, so p - 1 times less changes no value. It stops at 1 or
+    # above: an unknown that is gone would be 1 where it was 0.
+    while left >= p:
+        left = left - (p - 1)
+    return left
+
+
+def joined_terms(p, terms):
+    """Give the terms in their order, like ones as one, those with factor 0 left out."""
+    factors = {}
+    for term in terms:
+        unknowns = tuple(term[1:])
+        factors[unknowns] = (factors.get(unknowns, 0) + term[0]) % p
+    kept = [[factors[unknowns]] + list(unknowns) for unknowns in factors if factors[unknowns] != 0]
+    return sorted(kept, key=term_place)
+
+
+def counted_row(terms):
+    """Give how many terms there are, then their row."""
+    answer = [len(terms)]
+    for term in terms:
+        answer.extend(term)
+    return answer

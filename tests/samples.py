@@ -72,6 +72,51 @@ def made_rows(p, n):
     return rows
 
 
+def made_pairs(p, n):
+    """Pairs of rows: some share all terms, some a few, some none."""
+    rows = made_rows(p, n)
+    pairs = list(zip(rows, rows[1:])) + list(zip(rows[2:], rows)) + list(zip(rows, reversed(rows)))
+    pairs += short_pairs(p, n)
+    return pairs + [(f, f) for f in rows[:5]] + [(f, opposite(p, n, f)) for f in rows[:5]]
+
+
+def short_pairs(p, n):
+    """Pairs of short rows with some terms in common, so that both added have no more than 400 numbers."""
+    terms = all_terms(n)
+    pairs = []
+    for start, step in ((0, 1), (1, 2), (3, 1), (0, len(terms) // 13)):
+        f = row_of(p, terms[start::step][:12])
+        for shift in (0, 1, 5):
+            pairs.append((f, row_of(p, terms[start + shift::step][:7])))
+    return pairs
+
+
+def opposite(p, n, f):
+    """The row that comes to 0 when it's added to f."""
+    return [p - number if k % (n + 1) == 0 else number for k, number in enumerate(f)]
+
+
+def factors_of(n, f):
+    """The factor of each term in row f, by how often the unknowns stand in it."""
+    return {tuple(f[k + 1:k + n + 1]): f[k] for k in range(0, len(f), n + 1)}
+
+
+def counted(n, row):
+    """How many terms there are, then the row."""
+    return [len(row) // (n + 1)] + row
+
+
+def is_as_told(p, n, row):
+    """Whether a row is a polynomial: by looking for its terms among all there are, one behind the other."""
+    if len(row) % (n + 1) != 0:
+        return False
+    waiting = iter(all_terms(n))
+    for k in range(0, len(row), n + 1):
+        if row[k] not in range(1, p) or tuple(row[k + 1:k + n + 1]) not in waiting:
+            return False
+    return True
+
+
 def nought_row(p, n, often=1):
     """A row with terms that's 0 everywhere: the first unknown `often` times, and p - 1 times more."""
     rest = [0] * (n - 1)

@@ -8,9 +8,9 @@ import sys
 import unittest
 
 from noughtsets import polynomials
-from noughtsets.polynomials import value, zeros
+from noughtsets.polynomials import plus, reduced, value, zeros
 from tests.samples import (
-    BY_HAND, GREATEST, NO_POLYNOMIALS, NO_SPACES, SPACES, Untouched, all_terms, made_rows, row_of,
+    BY_HAND, GREATEST, NO_POLYNOMIALS, NO_SPACES, SPACES, Untouched, all_terms, made_pairs, made_rows, row_of,
 )
 
 
@@ -25,7 +25,16 @@ def all_given():
         given.append((zeros, (p, n, f)))
         given.append((value, (p, n, 1, f)))
         given.append((value, (p, n, GREATEST, f)))
-    return given
+        given.append((reduced, (p, n, f)))
+        given.append((plus, (p, n, f, [])))
+        given.append((plus, (p, n, [], f)))
+        given.append((plus, (p, n, f, f)))
+    return given + [(plus, (p, n, f, g)) for p, n in SPACES for f, g in made_pairs(p, n)]
+
+
+def untouched(given):
+    """The same arguments, each list among them one that fails when it is changed."""
+    return [Untouched(part) if isinstance(part, list) else part for part in given]
 
 
 class HandedIn(unittest.TestCase):
@@ -37,11 +46,14 @@ class HandedIn(unittest.TestCase):
 
     def test_not_changed_for_a_while_either(self):
         for function, given in all_given():
-            function(*given[:-1], Untouched(given[-1]))
+            self.assertEqual(function(*untouched(given)), function(*given))
 
     def test_the_answer_is_another_list(self):
         for function, given in all_given():
-            self.assertIsNot(function(*given), given[-1])
+            answer = function(*given)
+            self.assertIs(type(answer), list)
+            for part in given:
+                self.assertIsNot(answer, part)
 
 
 class Kept(unittest.TestCase):
@@ -65,6 +77,19 @@ class Kept(unittest.TestCase):
         f[0] = 4
         self.assertEqual(zeros(5, 1, f), [2, 1, 4])
         self.assertEqual(value(5, 1, 0, f), [4])
+        self.assertEqual(reduced(5, 1, f), [2, 4, 0, 1, 2])
+        self.assertEqual(plus(5, 1, f, [1, 0]), [1, 1, 2])
+        f[3] = 6
+        self.assertEqual(reduced(5, 1, f), [2, 4, 0, 1, 2])
+        self.assertEqual(plus(5, 1, f, [1, 0]), [1, 1, 6])
+
+    def test_a_refusal_between_two_calls(self):
+        for function, right, wrong in (
+                (reduced, (5, 1, [1, 5]), (5, 1, [1, 5, 1])),
+                (plus, (5, 1, [1, 5], [2, 5]), (5, 1, [1, 5], [2, 5, 0, 6]))):
+            before = function(*right)
+            self.assertEqual(function(*wrong), [-22])
+            self.assertEqual(function(*right), before)
 
     def test_the_module_is_as_before(self):
         before = copy.deepcopy({name: kept for name, kept in vars(polynomials).items() if name[:2] != "__"})
@@ -87,19 +112,24 @@ class Quiet(unittest.TestCase):
 
     def test_the_longest_row_needs_little_depth(self):
         f = row_of(7, all_terms(3)[:100])
+        g = row_of(7, all_terms(3)[-100:])
+        calls = [(value, (7, 3, 1, f)), (zeros, (7, 3, f)), (reduced, (7, 3, g)), (plus, (7, 3, g, f))]
+        answers = [function(*given) for function, given in calls]
         limit = sys.getrecursionlimit()
         sys.setrecursionlimit(len(inspect.stack()) + 30)
         try:
-            answers = [value(7, 3, 1, f), zeros(7, 3, f)]
+            again = [function(*given) for function, given in calls]
         finally:
             sys.setrecursionlimit(limit)
-        self.assertEqual(answers, [value(7, 3, 1, f), zeros(7, 3, f)])
+        self.assertEqual(again, answers)
 
 
 class Interface(unittest.TestCase):
     def test_names_of_the_arguments(self):
         self.assertEqual(list(inspect.signature(value).parameters), ["p", "n", "x", "f"])
         self.assertEqual(list(inspect.signature(zeros).parameters), ["p", "n", "f"])
+        self.assertEqual(list(inspect.signature(reduced).parameters), ["p", "n", "f"])
+        self.assertEqual(list(inspect.signature(plus).parameters), ["p", "n", "f", "g"])
 
 
 if __name__ == "__main__":
