@@ -91,6 +91,88 @@ def short_pairs(p, n):
     return pairs
 
 
+def low_pairs(p, n):
+    """Pairs of rows whose degrees come to no more than 12 together: sparse ones, full ones, many shared terms."""
+    pairs = []
+    for most in (0, 1, 2, 4, 6, 9, 12):
+        for step in (1, 2, 5):
+            low = [often for often in all_terms(n) if sum(often) <= most][::step][-60:]
+            rest = [often for often in all_terms(n) if sum(often) <= 12 - most][step - 1::step][:60]
+            pairs.append((row_of(p, low), row_of(p, rest)))
+    few = row_of(p, all_terms(n)[:3])
+    return pairs + [([], []), ([], few), (few, []), (few, few), (few, opposite(p, n, few))]
+
+
+def multiplied(p, n, f, g):
+    """The answer of times by whole numbers that are reduced at the very end, walked in the terms' order."""
+    factors = {}
+    for first, first_factor in factors_of(n, f).items():
+        for second, second_factor in factors_of(n, g).items():
+            often = tuple(map(sum, zip(first, second)))
+            factors[often] = factors.get(often, 0) + first_factor * second_factor
+    row = []
+    for often in sorted(factors, key=lambda often: (sum(often),) + often):
+        if factors[often] % p:
+            row.extend((factors[often] % p,) + often)
+    return counted(n, row)
+
+
+def low_unknowns(p, n):
+    """Every term with each unknown less than p times, without its factor, in the terms' order."""
+    return [often for often in all_terms(n) if max(often) < p]
+
+
+def greatest_degree(n, row):
+    """The degree of a row, 0 if it has no terms."""
+    return max([sum(often) for often in factors_of(n, row)], default=0)
+
+
+def made_sets(p, n, most=130):
+    """Sets of points of many sizes, none with more than `most` points, none with all of them."""
+    count = p ** n
+    sets = [[], [0], [count - 1], [0, count - 1], [count // 2], list(range(count - 1)), list(range(1, count))]
+    for step in (1, 2, 3, 4, p, p + 1, 2 * p + 1):
+        sets.append(list(range(step % 3, count, step))[:min(most, count - 1)])
+        sets.append([x for x in range(count) if (x * x + step * x + x // 3) % 11 < 4])
+        sets.append([x for x in range(count) if (x * x * x + step) % 13 < 2])
+    return [s for s in sets if len(s) <= most and len(s) < count]
+
+
+def least_reckoned(p, n, s):
+    """The answer of least, point by point.
+
+    At first every term stands for itself. Each point takes away the first one that isn't 0 there, and of it as
+    much from those behind it as makes them 0 there. The first that is left then is the set's polynomial.
+    """
+    unknowns = low_unknowns(p, n)
+    every = points(p, n)
+    rows = [[int(k == own) for k in range(len(unknowns))] for own in range(len(unknowns))]
+    for x in s:
+        values = [powers(every[x], often) % p for often in unknowns]
+        found = [sum(map(int.__mul__, row, values)) % p for row in rows]
+        place = [k for k, number in enumerate(found) if number][0]
+        taken = rows[place]
+        share = pow(found[place], -1, p)
+        kept = []
+        for row, number in zip(rows[place + 1:], found[place + 1:]):
+            part = number * share % p
+            kept.append([(a - part * b) % p for a, b in zip(row, taken)] if part else row)
+        rows = rows[:place] + kept
+    row = []
+    for factor, often in zip(rows[0], unknowns):
+        if factor:
+            row.extend((factor,) + often)
+    return [greatest_degree(n, row)] + row
+
+
+def powers(point, often):
+    """What the unknowns come to at a point, each as often as told; not reduced."""
+    answer = 1
+    for number, count in zip(point, often):
+        answer *= number ** count
+    return answer
+
+
 def opposite(p, n, f):
     """The row that comes to 0 when it's added to f."""
     return [p - number if k % (n + 1) == 0 else number for k, number in enumerate(f)]
@@ -175,6 +257,41 @@ NO_POLYNOMIALS = [
 NO_SPACES = [(p, 1) for p in (0, 1, 4, 6, 8, 9, 10, 11, 13, GREATEST)]
 NO_SPACES += [(p, n) for p in PRIMES for n in (0, 4, 5, GREATEST)]
 NO_SPACES += [(0, 0), (GREATEST, GREATEST)]
+
+
+# The cause, p, n, the row: each one is no set of points.
+NO_SETS = [
+    ("twice the same, n is 1", 5, 1, [1, 1]),
+    ("twice the same, the first point", 2, 2, [0, 0]),
+    ("twice the same at the end", 3, 2, [0, 4, 8, 8]),
+    ("twice the same in the middle", 7, 3, [0, 200, 200, 342]),
+    ("twice the same at the beginning", 5, 3, [7, 7, 8]),
+    ("the greater first", 5, 1, [2, 1]),
+    ("the greater first, the first point", 2, 1, [1, 0]),
+    ("the greater first at the end", 3, 2, [0, 1, 5, 4]),
+    ("the greater first in the middle", 7, 2, [0, 9, 8, 48]),
+    ("the greater first at the beginning", 7, 3, [1, 0, 342]),
+    ("all points, falling", 3, 1, [2, 1, 0]),
+    ("all points, one of them twice", 3, 1, [0, 1, 2, 2]),
+    ("the greatest number", 7, 3, [GREATEST]),
+    ("the greatest number behind points", 7, 3, [0, 1, GREATEST]),
+    ("the greatest number ahead of points", 7, 3, [GREATEST, 0, 1]),
+    ("400 times the same", 7, 3, [0] * 400),
+    ("400 times the greatest number", 7, 3, [GREATEST] * 400),
+    ("400 rising numbers", 7, 3, list(range(400))),
+    ("400 rising numbers, n is 1", 2, 1, list(range(400))),
+    ("400 great rising numbers", 7, 3, list(range(GREATEST - 399, GREATEST + 1))),
+    ("400 falling numbers", 7, 3, list(range(399, -1, -1))),
+]
+for prime, count in SPACES:
+    every = prime ** count
+    NO_SETS += [
+        ("no such point", prime, count, [every]),
+        ("no such point behind one", prime, count, [0, every]),
+        ("no such point, far off", prime, count, [every + every]),
+        ("all points and no such point", prime, count, list(range(every + 1))),
+        ("all points but the first, and no such point", prime, count, list(range(1, every + 1))),
+    ]
 
 
 class Untouched(list):

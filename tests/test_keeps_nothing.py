@@ -8,9 +8,10 @@ import sys
 import unittest
 
 from noughtsets import polynomials
-from noughtsets.polynomials import plus, reduced, value, zeros
+from noughtsets.polynomials import least, plus, reduced, times, value, zeros
 from tests.samples import (
-    BY_HAND, GREATEST, NO_POLYNOMIALS, NO_SPACES, SPACES, Untouched, all_terms, made_pairs, made_rows, row_of,
+    BY_HAND, GREATEST, NO_POLYNOMIALS, NO_SETS, NO_SPACES, SPACES, Untouched,
+    all_terms, low_pairs, made_pairs, made_rows, made_sets, row_of,
 )
 
 
@@ -29,7 +30,21 @@ def all_given():
         given.append((plus, (p, n, f, [])))
         given.append((plus, (p, n, [], f)))
         given.append((plus, (p, n, f, f)))
-    return given + [(plus, (p, n, f, g)) for p, n in SPACES for f, g in made_pairs(p, n)]
+        given.append((times, (p, n, f, [])))
+        given.append((times, (p, n, [], f)))
+        given.append((times, (p, n, f, f)))
+    for p, n in SPACES:
+        given += [(plus, (p, n, f, g)) for f, g in made_pairs(p, n)]
+        given += [(times, (p, n, f, g)) for f, g in low_pairs(p, n)]
+    return given + sets_given()
+
+
+def sets_given():
+    """Calls of least, of every sort."""
+    given = [(least, (p, n, s)) for p, n in SPACES for s in made_sets(p, n, 60)]
+    given += [(least, (p, n, list(range(p ** n)))) for p, n in SPACES]
+    given += [(least, (p, n, s)) for name, p, n, s in NO_SETS]
+    return given + [(least, (p, n, [0, 1])) for p, n in NO_SPACES]
 
 
 def untouched(given):
@@ -82,11 +97,29 @@ class Kept(unittest.TestCase):
         f[3] = 6
         self.assertEqual(reduced(5, 1, f), [2, 4, 0, 1, 2])
         self.assertEqual(plus(5, 1, f, [1, 0]), [1, 1, 6])
+        self.assertEqual(times(5, 1, f, [2, 0]), [2, 3, 0, 2, 6])
+        f[2] = 3
+        self.assertEqual(times(5, 1, f, [2, 0]), [2, 3, 0, 1, 6])
+
+    def test_a_set_changed_between_two_calls(self):
+        s = [1, 4]
+        self.assertEqual(least(5, 1, s), [2, 4, 0, 1, 2])
+        s[1] = 3
+        self.assertEqual(least(5, 1, s), [2, 3, 0, 1, 1, 1, 2])
+        s.append(3)
+        self.assertEqual(least(5, 1, s), [-22])
+        s.pop()
+        s.pop()
+        self.assertEqual(least(5, 1, s), [1, 4, 0, 1, 1])
+        s.pop()
+        self.assertEqual(least(5, 1, s), [0, 1, 0])
 
     def test_a_refusal_between_two_calls(self):
         for function, right, wrong in (
                 (reduced, (5, 1, [1, 5]), (5, 1, [1, 5, 1])),
-                (plus, (5, 1, [1, 5], [2, 5]), (5, 1, [1, 5], [2, 5, 0, 6]))):
+                (plus, (5, 1, [1, 5], [2, 5]), (5, 1, [1, 5], [2, 5, 0, 6])),
+                (times, (5, 1, [1, 5], [2, 5]), (5, 1, [1, 5], [2, 5, 0, 6])),
+                (least, (5, 1, [1, 2]), (5, 1, [1, 2, 2]))):
             before = function(*right)
             self.assertEqual(function(*wrong), [-22])
             self.assertEqual(function(*right), before)
@@ -110,10 +143,12 @@ class Quiet(unittest.TestCase):
         self.assertEqual(out.getvalue(), "")
         self.assertEqual(set(sys.modules), modules)
 
-    def test_the_longest_row_needs_little_depth(self):
+    def test_the_longest_rows_need_little_depth(self):
         f = row_of(7, all_terms(3)[:100])
         g = row_of(7, all_terms(3)[-100:])
+        low = row_of(7, [often for often in all_terms(3) if sum(often) <= 5])
         calls = [(value, (7, 3, 1, f)), (zeros, (7, 3, f)), (reduced, (7, 3, g)), (plus, (7, 3, g, f))]
+        calls += [(times, (7, 3, f, low)), (least, (7, 3, list(range(342))))]
         answers = [function(*given) for function, given in calls]
         limit = sys.getrecursionlimit()
         sys.setrecursionlimit(len(inspect.stack()) + 30)
@@ -130,6 +165,8 @@ class Interface(unittest.TestCase):
         self.assertEqual(list(inspect.signature(zeros).parameters), ["p", "n", "f"])
         self.assertEqual(list(inspect.signature(reduced).parameters), ["p", "n", "f"])
         self.assertEqual(list(inspect.signature(plus).parameters), ["p", "n", "f", "g"])
+        self.assertEqual(list(inspect.signature(times).parameters), ["p", "n", "f", "g"])
+        self.assertEqual(list(inspect.signature(least).parameters), ["p", "n", "s"])
 
 
 if __name__ == "__main__":

@@ -6,7 +6,7 @@ from itertools import product
 from noughtsets.polynomials import plus, reduced, value, zeros
 from tests.samples import (
     GREATEST, NO_POLYNOMIALS, NO_SPACES, PRIMES, SPACES,
-    all_terms, counted, is_as_told, made_rows, nought_row, reckoned, row_of,
+    all_terms, counted, greatest_degree, is_as_told, made_rows, nought_row, reckoned, row_of,
 )
 
 # For each p: how often an unknown stands there when it's reduced, if it stood there 0 to 12 times.
@@ -33,10 +33,6 @@ BY_HAND = [
     (7, 3, [1, 0, 0, 7, 1, 0, 7, 0, 1, 7, 0, 0, 4, 12, 12, 12],
      [4, 1, 0, 0, 1, 1, 0, 1, 0, 1, 1, 0, 0, 4, 6, 6, 6]),
 ]
-
-
-def greatest_degree(n, row):
-    return max([sum(row[k + 1:k + n + 1]) for k in range(0, len(row), n + 1)], default=0)
 
 
 def values(p, n, f):
