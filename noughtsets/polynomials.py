@@ -67,6 +67,13 @@ def least(p, n, s):
     return [degree(terms)] + joined_row(terms)
 
 
+def room(p, n, d):
+    """Answer how many terms there are, without factors, with each unknown less than p times, of degree d at most."""
+    if not is_space(p, n):
+        return [NOT_AS_TOLD]
+    return [len([term for term in low_terms(p, n) if degree([term]) <= d])]
+
+
 def is_polynomial(p, n, f):
     """Tell whether p and n are allowed and f is the row of a polynomial for them."""
     # p and n come first: the row can't be cut into terms by an n that isn't allowed.

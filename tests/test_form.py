@@ -85,6 +85,29 @@ class Code(unittest.TestCase):
                 self.assertEqual(node.orelse, [])
             if isinstance(node, ast.Assign):
                 self.assertEqual(len(node.targets), 1)
+                self.assertIsInstance(node.targets[0], (ast.Name, ast.Subscript))
+
+    def test_comprehensions_and_keywords(self):
+        for node in nodes():
+            if isinstance(node, ast.ListComp):
+                self.assertEqual(len(node.generators), 1)
+                self.assertLessEqual(len(node.generators[0].ifs), 1)
+                self.assertNotIsInstance(node.elt, ast.ListComp)
+            if isinstance(node, ast.Call):
+                for keyword in node.keywords:
+                    self.assertIn((node.func.id, keyword.arg), [("sorted", "key"), ("max", "default")])
+            self.assertNotIsInstance(node, (ast.Is, ast.IsNot))
+
+    def test_nothing_kept_at_the_top(self):
+        for file in FILES:
+            for node in ast.parse(file.read_text(encoding="utf-8")).body:
+                if isinstance(node, ast.Assign):
+                    ast.literal_eval(node.value)
+                    self.assertNotIsInstance(node.value, (ast.List, ast.Dict))
+                elif isinstance(node, ast.Expr):
+                    self.assertIsInstance(ast.literal_eval(node.value), str)
+                else:
+                    self.assertIsInstance(node, ast.FunctionDef)
 
     def test_names(self):
         for file in FILES:

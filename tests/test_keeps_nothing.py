@@ -8,7 +8,7 @@ import sys
 import unittest
 
 from noughtsets import polynomials
-from noughtsets.polynomials import least, plus, reduced, times, value, zeros
+from noughtsets.polynomials import least, plus, reduced, room, times, value, zeros
 from tests.samples import (
     BY_HAND, GREATEST, NO_POLYNOMIALS, NO_SETS, NO_SPACES, SPACES, Untouched,
     all_terms, low_pairs, made_pairs, made_rows, made_sets, row_of,
@@ -36,6 +36,8 @@ def all_given():
     for p, n in SPACES:
         given += [(plus, (p, n, f, g)) for f, g in made_pairs(p, n)]
         given += [(times, (p, n, f, g)) for f, g in low_pairs(p, n)]
+    for p, n in SPACES + NO_SPACES:
+        given += [(room, (p, n, d)) for d in (0, 1, 2, 5, 18, 19, GREATEST)]
     return given + sets_given()
 
 
@@ -119,7 +121,8 @@ class Kept(unittest.TestCase):
                 (reduced, (5, 1, [1, 5]), (5, 1, [1, 5, 1])),
                 (plus, (5, 1, [1, 5], [2, 5]), (5, 1, [1, 5], [2, 5, 0, 6])),
                 (times, (5, 1, [1, 5], [2, 5]), (5, 1, [1, 5], [2, 5, 0, 6])),
-                (least, (5, 1, [1, 2]), (5, 1, [1, 2, 2]))):
+                (least, (5, 1, [1, 2]), (5, 1, [1, 2, 2])),
+                (room, (5, 3, 6), (5, 4, 6))):
             before = function(*right)
             self.assertEqual(function(*wrong), [-22])
             self.assertEqual(function(*right), before)
@@ -148,7 +151,7 @@ class Quiet(unittest.TestCase):
         g = row_of(7, all_terms(3)[-100:])
         low = row_of(7, [often for often in all_terms(3) if sum(often) <= 5])
         calls = [(value, (7, 3, 1, f)), (zeros, (7, 3, f)), (reduced, (7, 3, g)), (plus, (7, 3, g, f))]
-        calls += [(times, (7, 3, f, low)), (least, (7, 3, list(range(342))))]
+        calls += [(times, (7, 3, f, low)), (least, (7, 3, list(range(342)))), (room, (7, 3, GREATEST))]
         answers = [function(*given) for function, given in calls]
         limit = sys.getrecursionlimit()
         sys.setrecursionlimit(len(inspect.stack()) + 30)
@@ -167,6 +170,37 @@ class Interface(unittest.TestCase):
         self.assertEqual(list(inspect.signature(plus).parameters), ["p", "n", "f", "g"])
         self.assertEqual(list(inspect.signature(times).parameters), ["p", "n", "f", "g"])
         self.assertEqual(list(inspect.signature(least).parameters), ["p", "n", "s"])
+        self.assertEqual(list(inspect.signature(room).parameters), ["p", "n", "d"])
+
+    def test_every_call_is_given_something(self):
+        self.assertEqual(
+            {function for function, given in all_given()}, {value, zeros, reduced, plus, times, least, room})
+
+    def test_whole_numbers_in_a_list_a_refusal_alone(self):
+        for function, given in all_given():
+            answer = function(*given)
+            self.assertIs(type(answer), list)
+            self.assertEqual({type(number) for number in answer}, {int})
+            if answer[0] < 0:
+                self.assertIn(answer, [[-22], [-2], [-28], [-33]])
+            self.assertTrue(len(answer) == 1 or min(answer) >= 0)
+            if function in (value, room):
+                self.assertEqual(len(answer), 1)
+
+    def test_plain_arguments_without_defaults(self):
+        for function in (value, zeros, reduced, plus, times, least, room):
+            for parameter in inspect.signature(function).parameters.values():
+                self.assertEqual(parameter.kind, inspect.Parameter.POSITIONAL_OR_KEYWORD)
+                self.assertIs(parameter.default, inspect.Parameter.empty)
+
+    def test_arguments_by_their_names(self):
+        self.assertEqual(value(f=[1, 1], x=3, n=1, p=5), [3])
+        self.assertEqual(zeros(f=[1, 1], n=1, p=5), [1, 0])
+        self.assertEqual(reduced(f=[1, 5], n=1, p=5), [1, 1, 1])
+        self.assertEqual(plus(g=[1, 1], f=[1, 0], n=1, p=5), [2, 1, 0, 1, 1])
+        self.assertEqual(times(g=[1, 1], f=[2, 0], n=1, p=5), [1, 2, 1])
+        self.assertEqual(least(s=[0], n=1, p=5), [1, 1, 1])
+        self.assertEqual(room(d=3, n=1, p=5), [4])
 
 
 if __name__ == "__main__":
